@@ -1,0 +1,1 @@
+"""Blankform: terms with blanks, filled so that two of them are alike."""

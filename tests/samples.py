@@ -1,0 +1,86 @@
+"""Terms that several tests use."""
+
+LETTERS = "abcdefghijklmnopqrstuvwxyz"
+
+
+def number(n):
+    return ("number", n)
+
+
+def name(word):
+    return ("name", word)
+
+
+def blank(word):
+    return ("blank", word)
+
+
+def thing(word, *parts):
+    return ("thing", word, parts)
+
+
+# pair(?x,f(oak),-3)
+PAIR = thing("pair", blank("x"), thing("f", name("oak")), number(-3))
+
+
+def long_word(length):
+    return (LETTERS[::-1] * (length // 26 + 1))[:length]
+
+
+def long_number(figures):
+    return int(("9081726354" * (figures // 10 + 1))[:figures])
+
+
+def word_of(count):
+    """Another word for every count."""
+    word = LETTERS[count % 26]
+    while count >= 26:
+        count //= 26
+        word += LETTERS[count % 26]
+    return word + "q"
+
+
+def deep(depth, leaf):
+    """Things one within the other; the inner one stands between two leaves."""
+    term = leaf
+    for level in range(depth):
+        term = thing(word_of(level), number(level), term, blank(word_of(level)))
+    return term
+
+
+def deep_line(depth, leaf_line):
+    line = leaf_line
+    for level in range(depth):
+        line = word_of(level) + "(" + str(level) + "," + line + ",?" + word_of(level) + ")"
+    return line
+
+
+def wide(count):
+    """A thing with `count` parts below it, of all four kinds, and its line."""
+    parts = []
+    lines = []
+    made = 0
+    while made < count:
+        word = word_of(made)
+        sort = made % 4 if made + 2 <= count else 0
+        if sort == 0:
+            parts.append(number(made - 6000))
+            lines.append(str(made - 6000))
+        elif sort == 1:
+            parts.append(name(word))
+            lines.append(word)
+        elif sort == 2:
+            parts.append(blank(word))
+            lines.append("?" + word)
+        else:
+            parts.append(thing(word, blank(word)))
+            lines.append(word + "(?" + word + ")")
+        made += 2 if sort == 3 else 1
+    return ("thing", "wide", tuple(parts)), "wide(" + ",".join(lines) + ")"
+
+
+def count_parts(term):
+    """How many terms lie below a term."""
+    if term[0] != "thing":
+        return 0
+    return sum(1 + count_parts(part) for part in term[2])
