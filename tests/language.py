@@ -31,6 +31,7 @@ METHODS = set(
 )
 DUNDERS = ("__init__", "__eq__", "__repr__", "__str__", "__len__")
 WALKED = ("zip", "enumerate", "reversed", "range")
+CHANGES = ("append", "clear", "extend", "insert", "pop", "remove", "reverse", "setdefault", "update")
 WALKERS = ("list", "tuple", "dict", "sorted", "sum", "any", "all", "enumerate", "zip", "min", "max")
 UNUSED_NAMES = set(
     "register mro elements open input version_info with_traceback add_note attrgetter breakpoint builtins compile "
@@ -52,7 +53,53 @@ def faults(source, package):
     parents = {child: node for node in ast.walk(tree) for child in ast.iter_child_nodes(node)}
     for node in ast.walk(tree):
         found += [(rule, node.lineno) for rule in faults_of_node(node, parents, own)]
+    found += faults_of_locals(tree)
+    found += faults_of_loops(tree)
     return found
+
+
+def faults_of_locals(tree):
+    """Parameters and locals that are called like a class or an import of the file."""
+    taken = set()
+    for node in tree.body:
+        if isinstance(node, (ast.ClassDef, ast.ImportFrom)):
+            taken.update(names_bound_by(node))
+    found = []
+    for node in ast.walk(tree):
+        if isinstance(node, ast.arg) and node.arg in taken:
+            found.append(("L15", node.lineno))
+        if isinstance(node, ast.Name) and isinstance(node.ctx, ast.Store) and node.id in taken:
+            found.append(("L15", node.lineno))
+    return found
+
+
+def faults_of_loops(tree):
+    """Changes, within a loop, of what it walks."""
+    found = []
+    for loop in ast.walk(tree):
+        if isinstance(loop, ast.For):
+            walked = [ast.unparse(node) for node in walked_by(loop.iter)]
+            within_loop = [node for statement in loop.body for node in ast.walk(statement)]
+            found += [("L23", node.lineno) for node in within_loop if changed_by(node) in walked]
+    return found
+
+
+def walked_by(node):
+    if not isinstance(node, ast.Call):
+        return [node]
+    if isinstance(node.func, ast.Attribute):
+        return [node.func.value]
+    if node.func.id in WALKED:
+        return [inner for given in node.args for inner in walked_by(given)]
+    return []
+
+
+def changed_by(node):
+    if isinstance(node, ast.Call) and isinstance(node.func, ast.Attribute) and node.func.attr in CHANGES:
+        return ast.unparse(node.func.value)
+    if isinstance(node, ast.Subscript) and not isinstance(node.ctx, ast.Load):
+        return ast.unparse(node.value)
+    return ""
 
 
 def faults_of_text(source):

@@ -1,5 +1,7 @@
 """Terms that several tests use."""
 
+from blankform.notes import shown
+
 LETTERS = "abcdefghijklmnopqrstuvwxyz"
 
 
@@ -84,3 +86,53 @@ def count_parts(term):
     if term[0] != "thing":
         return 0
     return sum(1 + count_parts(part) for part in term[2])
+
+
+class Picker:
+    """Picks by a fixed row of numbers: the same picks on every run and every Python."""
+
+    def __init__(self, seed):
+        self.state = seed
+
+    def below(self, count):
+        self.state = (self.state * 6364136223846793005 + 1442695040888963407) % 2 ** 64
+        return (self.state >> 33) % count
+
+    def one_of(self, choices):
+        return choices[self.below(len(choices))]
+
+
+def picked_term(picker, words, depth):
+    """A small term whose blanks have some of the words; names and things share them."""
+    sort = picker.below(8 if depth else 4)
+    if sort == 0:
+        return number(picker.below(3) - 1)
+    if sort == 1:
+        return name(picker.one_of(words))
+    if sort in (2, 3):
+        return blank(picker.one_of(words))
+    parts = [picked_term(picker, words, depth - 1) for _ in range(1 + picker.below(3))]
+    return thing(picker.one_of(words), *parts)
+
+
+def picked_filling(picker, words, depth):
+    """A filling as it is handed in: from the word nearest to `a` on, no blank filled by itself."""
+    filling = []
+    for word in sorted(words):
+        term = picked_term(picker, words, depth)
+        if picker.below(3) and term != blank(word):
+            filling.append((word, term))
+    return filling
+
+
+def comb(depth, leaf):
+    """Things of two parts one within the other, the leaf within the innermost."""
+    term = leaf
+    for level in range(depth):
+        term = thing("comb", name(word_of(level)), term)
+    return term
+
+
+def written(pairs):
+    """A filling with its terms as lines: what can be kept and held against it later, however deep they are."""
+    return [(word, shown(term)) for word, term in pairs]

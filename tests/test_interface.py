@@ -1,15 +1,24 @@
 import inspect
 import unittest
 
+from blankform.filling import filled, joined
+from blankform.lines import is_clash, is_ring, sound
+from blankform.matching import matched
 from blankform.notes import read, shown
 from blankform.terms import blanks_of, part_at
-from samples import PAIR, name
+from samples import PAIR, blank, name, thing
 
 ARGUMENTS = [
     (part_at, ["term", "path"]),
     (blanks_of, ["term"]),
     (shown, ["term"]),
     (read, ["line"]),
+    (filled, ["term", "filling"]),
+    (joined, ["first", "second"]),
+    (matched, ["pattern", "term"]),
+    (sound, ["lines", "one", "other"]),
+    (is_clash, ["lines", "number"]),
+    (is_ring, ["lines", "numbers"]),
 ]
 
 
@@ -25,3 +34,10 @@ class Interface(unittest.TestCase):
         self.assertEqual(blanks_of(term=PAIR), ["x"])
         self.assertEqual(shown(term=PAIR), "pair(?x,f(oak),-3)")
         self.assertEqual(read(line="pair(?x,f(oak),-3)"), PAIR)
+        self.assertEqual(filled(term=blank("x"), filling=[("x", name("oak"))]), name("oak"))
+        self.assertEqual(joined(first=[("x", blank("y"))], second=[("y", blank("x"))]), [("y", blank("x"))])
+        self.assertEqual(matched(pattern=blank("x"), term=name("oak")), ("match", [("x", name("oak"))]))
+        lines = [(blank("x"), thing("f", blank("x")), ("given",))]
+        self.assertIs(sound(lines=lines, one=blank("x"), other=thing("f", blank("x"))), True)
+        self.assertIs(is_clash(lines=lines, number=0), False)
+        self.assertIs(is_ring(lines=lines, numbers=[0]), True)

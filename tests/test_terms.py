@@ -1,9 +1,11 @@
+import itertools
 import unittest
 
 from blankform.errors import FormError, NoPart
-from blankform.terms import blanks_of, part_at
+from blankform.notes import read
+from blankform.terms import blanks_of, part_at, same
 from samples import (
-    LETTERS, PAIR, blank, count_parts, deep, long_number, long_word, name, number, thing, wide, word_of,
+    LETTERS, PAIR, blank, comb, count_parts, deep, long_number, long_word, name, number, thing, wide, word_of,
 )
 
 LEAVES = [number(0), number(7), number(-7), name("oak"), blank("x")]
@@ -158,6 +160,30 @@ class BlanksOf(unittest.TestCase):
             other = word[:-1] + "b"
             self.assertNotEqual(word, other)
             self.assertEqual(blanks_of(thing(word, number(long_number(length)), blank(word), blank(other))), [word, other])
+
+
+class Same(unittest.TestCase):
+    def test_small_terms(self):
+        lines = [
+            "0", "1", "-1", "x", "?x", "y", "?y", "xx", "x(x)", "x(?x)", "x(0)", "y(x)", "x(x,x)", "x(x,?x)", "x(?x,x)",
+            "x(x(x))", "x(x(x),x)", "x(x,x(x))", "x(x,x(x,x))", "x(x,x(x),x)", "x(x,y,x)", "x(y,x,x)", "x(x,x,y)",
+        ]
+        for one, other in itertools.product(lines, repeat=2):
+            self.assertIs(same(read(one), read(other)), one == other, (one, other))
+
+    def test_deep_terms(self):
+        # So deep that Python's own == would fail.
+        one = comb(5000, name("oak"))
+        self.assertIs(same(one, comb(5000, name("oak"))), True)
+        self.assertIs(same(one, comb(5000, name("ash"))), False)
+        self.assertIs(same(one, comb(4999, name("oak"))), False)
+
+    def test_many_parts(self):
+        one, _ = wide(12000)
+        other, _ = wide(12000)
+        self.assertIs(same(one, other), True)
+        self.assertIs(same(one, ("thing", "wide", other[2][:-1] + (name("end"),))), False)
+        self.assertIs(same(one, ("thing", "wide", (name("end"),) + other[2][1:])), False)
 
 
 class TermsStayAsTheyAre(unittest.TestCase):
