@@ -44,15 +44,16 @@ UNUSED_WORDS = (
 )
 
 
-def faults(source, package):
-    """A list of (rule, line) for a file's text."""
+def faults(source, package, methods=()):
+    """A list of (rule, line) for a file's text; `methods` are those of the package's classes in other files."""
     tree = ast.parse(source)
     found = faults_of_text(source)
     found += faults_of_top(tree, package)
     own = own_names(tree)
     parents = {child: node for node in ast.walk(tree) for child in ast.iter_child_nodes(node)}
     for node in ast.walk(tree):
-        found += [(rule, node.lineno) for rule in faults_of_node(node, parents, own)]
+        known = own | set(methods) if isinstance(node, ast.Attribute) else own
+        found += [(rule, node.lineno) for rule in faults_of_node(node, parents, known)]
     found += faults_of_locals(tree)
     found += faults_of_loops(tree)
     return found

@@ -1,9 +1,11 @@
 import inspect
 import unittest
 
+from blankform.alike import alike
 from blankform.filling import filled, joined
 from blankform.lines import is_clash, is_ring, sound
 from blankform.matching import matched
+from blankform.naming import renamed, same_but_names
 from blankform.notes import read, shown
 from blankform.terms import blanks_of, part_at
 from samples import PAIR, blank, name, thing
@@ -19,6 +21,9 @@ ARGUMENTS = [
     (sound, ["lines", "one", "other"]),
     (is_clash, ["lines", "number"]),
     (is_ring, ["lines", "numbers"]),
+    (alike, ["one", "other"]),
+    (renamed, ["term", "names"]),
+    (same_but_names, ["one", "other"]),
 ]
 
 
@@ -41,3 +46,6 @@ class Interface(unittest.TestCase):
         self.assertIs(sound(lines=lines, one=blank("x"), other=thing("f", blank("x"))), True)
         self.assertIs(is_clash(lines=lines, number=0), False)
         self.assertIs(is_ring(lines=lines, numbers=[0]), True)
+        self.assertEqual(alike(one=blank("x"), other=name("oak"))[:2], ("alike", [("x", name("oak"))]))
+        self.assertEqual(renamed(term=blank("x"), names=[("x", "y")]), blank("y"))
+        self.assertEqual(same_but_names(one=blank("x"), other=blank("y")), [("x", "y")])

@@ -3,10 +3,12 @@ import pathlib
 import re
 import unittest
 
-from language import faults
+from language import DUNDERS, METHODS, faults
 
 PACKAGE = pathlib.Path(__file__).resolve().parent.parent / "blankform"
 FORBIDDEN_STEMS = ("test", "tests", "testing", "site", "conftest", "sitecustomize", "usercustomize")
+# What a value of an object may be called although Python's own values have a method of that name.
+VALUES = set("count index title find get join lower upper split strip copy add".split())
 
 # One row for each kind of fault, so that a check that sees nothing is seen itself.
 FAULTY = [
@@ -65,6 +67,22 @@ def module_name(path):
     return ".".join(part for part in parts if part != "__init__")
 
 
+def nodes():
+    """Everything that stands in a file of the package."""
+    return [node for path in files() for node in ast.walk(ast.parse(path.read_text(encoding="utf-8")))]
+
+
+def methods():
+    """The methods of every class of the package."""
+    bodies = [node.body for node in nodes() if isinstance(node, ast.ClassDef)]
+    return [part.name for body in bodies for part in body if isinstance(part, ast.FunctionDef)]
+
+
+def kept_values():
+    """The values that objects are given."""
+    return [node.attr for node in nodes() if isinstance(node, ast.Attribute) and isinstance(node.ctx, ast.Store)]
+
+
 def imports(path):
     tree = ast.parse(path.read_text(encoding="utf-8"))
     return [node for node in tree.body if isinstance(node, ast.ImportFrom)]
@@ -74,7 +92,15 @@ class Language(unittest.TestCase):
     def test_every_file_keeps_to_the_rules(self):
         self.assertTrue(files())
         for path in files():
-            self.assertEqual(faults(path.read_text(encoding="utf-8"), "blankform"), [], path.name)
+            self.assertEqual(faults(path.read_text(encoding="utf-8"), "blankform", methods()), [], path.name)
+
+    def test_the_names_of_methods_and_of_values_of_objects(self):
+        self.assertTrue(methods() and kept_values())
+        self.assertEqual(set(methods()) & set(kept_values()), set())
+        python = set(name for kind in (str, int, list, dict, set, bytes, tuple) for name in dir(kind)) - set(DUNDERS)
+        self.assertEqual(set(methods()) & python - METHODS - {"add", "discard"}, set())
+        self.assertEqual(set(kept_values()) & python - VALUES, set())
+        self.assertEqual(set(methods()) & {"items", "keys", "values", "args", "encode", "format"}, set())
 
     def test_the_check_sees_each_kind_of_fault(self):
         for rule, source in FAULTY:
